@@ -8,6 +8,7 @@ import (
 	"easement/api"
 	"easement/flow"
 	"easement/point"
+	"easement/touch"
 )
 
 // nexts is of each point those to which one goes, by the words of chapter 23.
@@ -124,6 +125,71 @@ func TestOrder(t *testing.T) {
 			for m := range next {
 				if to[n][m] && !to[m][n] && place[m] > place[n] {
 					t.Error("ahead", n, m)
+				}
+			}
+		}
+	})
+}
+
+// touched is the locals that a statement reads and writes, by the words of chapter 24.
+func touched(s api.Stmt) (reads, writes []int) {
+	switch s.Kind {
+	case api.Assign, api.Borrow, api.Reborrow:
+		return []int{s.Src}, []int{s.Dst}
+	case api.Use:
+		return []int{s.Src}, nil
+	case api.Dead:
+		return nil, []int{s.Dst}
+	}
+	return nil, nil
+}
+
+// ended is the locals that a terminator reads and writes.
+func ended(x api.Term) (reads, writes []int) {
+	switch x.Kind {
+	case api.Switch:
+		return x.Args, nil
+	case api.Call:
+		return x.Args, []int{x.Dst}
+	case api.Return:
+		return []int{0}, nil
+	}
+	return nil, nil
+}
+
+// touches is of each point the locals that it reads, and those that it writes.
+func touches(b api.Body) (reads, writes [][]int) {
+	for _, x := range b.Blocks {
+		for _, s := range x.Stmts {
+			r, w := touched(s)
+			reads, writes = append(reads, r), append(writes, w)
+		}
+		r, w := ended(x.Term)
+		reads, writes = append(reads, r), append(writes, w)
+	}
+	return reads, writes
+}
+
+// Promises 24.1 and 24.2.
+func TestTouch(t *testing.T) {
+	each(t, 4, 500, func(t *testing.T, _ *rand.Rand, b api.Body) {
+		reads, writes := touches(b)
+		x := touch.New(b)
+		if x.Len() != len(reads) {
+			t.Error("points")
+		}
+		for local := range b.Locals {
+			readers, writers := x.Of(local)
+			for n := range reads {
+				w, ok := x.Write(n)
+				if slices.Contains(x.Reads(n), local) != slices.Contains(reads[n], local) || slices.Contains(readers, n) != slices.Contains(reads[n], local) {
+					t.Error("reads", n, local)
+				}
+				if (ok && w == local) != slices.Contains(writes[n], local) || slices.Contains(writers, n) != slices.Contains(writes[n], local) {
+					t.Error("writes", n, local)
+				}
+				if !slices.IsSorted(x.Reads(n)) || len(slices.Compact(x.Reads(n))) != len(x.Reads(n)) {
+					t.Error("order", n)
 				}
 			}
 		}
