@@ -8,6 +8,7 @@ import (
 	"easement/api"
 	"easement/cons"
 	"easement/live"
+	"easement/model"
 	"easement/row"
 	"easement/seed"
 	"easement/solve"
@@ -156,6 +157,48 @@ func TestSolve(t *testing.T) {
 					t.Error("same", a, d)
 				}
 			}
+		}
+	})
+}
+
+// Promises 30.1 to 30.3.
+func TestModel(t *testing.T) {
+	each(t, 9, 500, func(t *testing.T, r *rand.Rand, b api.Body) {
+		l := constraints(r, b)
+		to := leads(b, l)
+		v := solve.Of(b, l, nil)
+		if !model.Agrees(b, l, v) {
+			t.Error("agrees")
+		}
+		more := append(slices.Clone(l), api.Edge{Sup: r.Intn(b.Regions), Sub: r.Intn(b.Regions)})
+		same := true
+		for a, want := range values(b, more) {
+			same = same && slices.Equal(want, v.List(a))
+		}
+		if model.Agrees(b, more, v) != same {
+			t.Error("agrees with more")
+		}
+		var bounds []api.Bound
+		var loose []int
+		for a := range b.Regions {
+			named := false
+			for _, x := range l {
+				named = named || x.Sup == a || x.Sub == a
+			}
+			if !named {
+				loose = append(loose, a)
+			}
+			for u := range b.Universals {
+				if a < b.Universals && u != a && to[a][u] {
+					bounds = append(bounds, api.Bound{Sup: a, Sub: u})
+				}
+				if slices.Contains(v.Ends(a), u) != to[a][u] {
+					t.Error("end", a, u)
+				}
+			}
+		}
+		if !slices.Equal(model.Outlives(b, l), bounds) || !slices.Equal(model.Loose(b, l), loose) {
+			t.Error("outlives, loose")
 		}
 	})
 }
