@@ -1,0 +1,91 @@
+package laws
+
+import (
+	"math/rand"
+	"slices"
+	"testing"
+
+	"easement/api"
+	"easement/cons"
+	"easement/decl"
+	"easement/judge"
+	"easement/solve"
+	"easement/tick"
+)
+
+// known tells of each two universal regions whether the first one is known to outlive the second one, by the words of chapter 31.
+func known(universals int, l ...api.Bound) [][]bool {
+	next := make([][]int, universals)
+	for u := range universals {
+		next[0] = append(next[0], u)
+	}
+	for _, x := range l {
+		next[x.Sup] = append(next[x.Sup], x.Sub)
+	}
+	return reached(next)
+}
+
+// missing is the bounds that a body needs, and that are not known, by constraints that lead from region to region.
+func missing(b api.Body, more ...api.Bound) []api.Bound {
+	to, has := leads(b, cons.Of(b, nil)), known(b.Universals, slices.Concat(b.Bounds, more)...)
+	var l []api.Bound
+	for sup := range b.Universals {
+		for sub := range b.Universals {
+			if to[sup][sub] && !has[sup][sub] {
+				l = append(l, api.Bound{Sup: sup, Sub: sub})
+			}
+		}
+	}
+	return l
+}
+
+// some is some of the bounds of a list.
+func some(r *rand.Rand, l []api.Bound) []api.Bound {
+	return slices.DeleteFunc(slices.Clone(l), func(api.Bound) bool { return r.Intn(2) > 0 })
+}
+
+// Promises 32.1 to 32.3.
+func TestJudge(t *testing.T) {
+	rejected := 0
+	each(t, 10, 600, func(t *testing.T, r *rand.Rand, b api.Body) {
+		want := missing(b)
+		if len(want) > 0 {
+			rejected++
+		}
+		got := judge.Missing(b)
+		if !slices.Equal(got, want) || judge.Accepts(b) != (len(want) == 0) {
+			t.Error(got, want)
+		}
+		var c tick.Counter
+		v := solve.Of(b, cons.Of(b, nil), nil)
+		if of := judge.Of(b, v, decl.Of(b.Universals, b.Bounds), &c); !slices.Equal(of, want) {
+			t.Error(of, want)
+		}
+		needed := 0
+		for u := range b.Universals {
+			needed += len(v.Ends(u)) - 1
+		}
+		if n := c.Of(tick.Judge); n > 2*b.Universals+needed || n != c.Total() {
+			t.Error("steps", n)
+		}
+		d := copied(b)
+		d.Bounds = append(d.Bounds, want...)
+		if len(judge.Missing(d)) != 0 || !judge.Accepts(d) || !judge.With(b, want) {
+			t.Error("with all")
+		}
+		few := some(r, want)
+		d = copied(b)
+		d.Bounds = append(d.Bounds, few...)
+		for _, x := range judge.Missing(d) {
+			if !slices.Contains(want, x) || slices.Contains(few, x) {
+				t.Error("with some", x)
+			}
+		}
+		if judge.With(b, few) != (len(missing(b, few...)) == 0) {
+			t.Error("with", few)
+		}
+	})
+	if rejected < 100 || rejected > 500 {
+		t.Error("rejected are", rejected)
+	}
+}
