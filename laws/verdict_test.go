@@ -6,9 +6,11 @@ import (
 	"testing"
 
 	"easement/api"
+	"easement/blame"
 	"easement/cons"
 	"easement/decl"
 	"easement/judge"
+	"easement/path"
 	"easement/solve"
 	"easement/tick"
 )
@@ -88,4 +90,62 @@ func TestJudge(t *testing.T) {
 	if rejected < 100 || rejected > 500 {
 		t.Error("rejected are", rejected)
 	}
+}
+
+// walks is all walks from a region to another one, of so many constraints.
+func walks(l []api.Edge, from, to, many int) [][]int {
+	if many == 0 {
+		if from == to {
+			return [][]int{nil}
+		}
+		return nil
+	}
+	var all [][]int
+	for i, x := range l {
+		if x.Sup == from {
+			for _, rest := range walks(l, x.Sub, to, many-1) {
+				all = append(all, append([]int{i}, rest...))
+			}
+		}
+	}
+	return all
+}
+
+// Promises 33.1 and 33.3.
+func TestBlame(t *testing.T) {
+	each(t, 11, 300, func(t *testing.T, _ *rand.Rand, b api.Body) {
+		l := cons.Of(b, nil)
+		want := missing(b)
+		found := blame.Of(b, l, want, nil)
+		if !slices.Equal(blame.Bounds(found), want) {
+			t.Error("bounds")
+		}
+		for _, f := range found {
+			if !blame.Right(b, l, f) {
+				t.Error("right", f)
+			}
+			for i, place := range blame.Places(l, f) {
+				n := 0
+				for block := range place.Block {
+					n += len(b.Blocks[block].Stmts) + 1
+				}
+				if !slices.Contains(cons.At(b, n+place.Index), l[f.Path[i]]) {
+					t.Error("place", place)
+				}
+			}
+			if len(f.Path) > 4 {
+				continue
+			}
+			for many := range len(f.Path) {
+				if len(walks(l, f.Sup, f.Sub, many)) > 0 {
+					t.Error("shorter", f)
+				}
+			}
+			for _, other := range walks(l, f.Sup, f.Sub, len(f.Path)) {
+				if path.Less(other, f.Path) {
+					t.Error("less", f, other)
+				}
+			}
+		}
+	})
 }
