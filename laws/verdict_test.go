@@ -7,6 +7,7 @@ import (
 
 	"easement/api"
 	"easement/blame"
+	"easement/bound"
 	"easement/cons"
 	"easement/decl"
 	"easement/judge"
@@ -146,6 +147,36 @@ func TestBlame(t *testing.T) {
 					t.Error("less", f, other)
 				}
 			}
+		}
+	})
+}
+
+// Promises 34.3 and 34.4.
+func TestSuggest(t *testing.T) {
+	each(t, 12, 500, func(t *testing.T, r *rand.Rand, b api.Body) {
+		for range r.Intn(6) {
+			b.Bounds = append(b.Bounds, api.Bound{Sup: r.Intn(b.Universals), Sub: r.Intn(b.Universals)})
+		}
+		want := missing(b)
+		l := bound.Suggest(b)
+		if !slices.Equal(l, bound.Least(b.Universals, b.Bounds, want)) || len(missing(b, l...)) > 0 {
+			t.Error("suggest", l)
+		}
+		for i := range l {
+			if without := slices.Delete(slices.Clone(l), i, i+1); len(missing(b, without...)) == 0 || judge.With(b, without) {
+				t.Error("needless", l[i])
+			}
+		}
+		var places []int
+		for i := range b.Bounds {
+			d := copied(b)
+			d.Bounds = slices.Delete(d.Bounds, i, i+1)
+			if len(missing(d)) == len(want) {
+				places = append(places, i)
+			}
+		}
+		if got := bound.Needless(b); !slices.Equal(got, places) {
+			t.Error(got, places)
 		}
 	})
 }
