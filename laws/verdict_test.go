@@ -5,6 +5,7 @@ import (
 	"slices"
 	"testing"
 
+	"easement/amend"
 	"easement/api"
 	"easement/blame"
 	"easement/bound"
@@ -14,6 +15,7 @@ import (
 	"easement/path"
 	"easement/solve"
 	"easement/tick"
+	"easement/valid"
 )
 
 // known tells of each two universal regions whether the first one is known to outlive the second one, by the words of chapter 31.
@@ -177,6 +179,36 @@ func TestSuggest(t *testing.T) {
 		}
 		if got := bound.Needless(b); !slices.Equal(got, places) {
 			t.Error(got, places)
+		}
+	})
+}
+
+// Promises 35.1 to 35.3.
+func TestAmend(t *testing.T) {
+	each(t, 13, 400, func(t *testing.T, r *rand.Rand, b api.Body) {
+		for range r.Intn(6) {
+			b.Bounds = append(b.Bounds, api.Bound{Sup: r.Intn(b.Universals), Sub: r.Intn(b.Universals)})
+		}
+		want := missing(b)
+		more, e := amend.Add(b, want)
+		if e != api.OK || !valid.OK(more) || len(missing(more)) > 0 {
+			t.Error("add", e)
+		}
+		tidy, _ := amend.Tidy(b)
+		trim, _ := amend.Trim(b)
+		if !slices.Equal(missing(tidy), want) || !slices.Equal(missing(trim), want) || len(bound.Needless(trim)) > 0 {
+			t.Error("tidy, trim")
+		}
+		naive := slices.Clone(b.Bounds)
+		for i := len(naive) - 1; i >= 0; i-- {
+			d := copied(b)
+			d.Bounds = slices.Delete(slices.Clone(naive), i, i+1)
+			if len(missing(d)) == len(want) {
+				naive = d.Bounds
+			}
+		}
+		if !slices.Equal(trim.Bounds, naive) {
+			t.Error(trim.Bounds, naive)
 		}
 	})
 }
