@@ -109,8 +109,8 @@ func (m *maker) terminator(blocks int) api.Term {
 	return api.Term{Kind: api.Return}
 }
 
-// body is a well-formed body.
-func body(r *rand.Rand) api.Body {
+// random is a well-formed body.
+func random(r *rand.Rand) api.Body {
 	m := &maker{Rand: r, shapes: [][]bool{nil, {false}, {false, false}, {false, true}, {true}}}
 	b := &m.body
 	b.Universals = 1 + r.Intn(5)
@@ -154,7 +154,7 @@ func each(t *testing.T, seed int64, many int, do func(t *testing.T, r *rand.Rand
 	t.Helper()
 	r := rand.New(rand.NewSource(seed))
 	for range many {
-		b := body(r)
+		b := random(r)
 		if f := valid.Check(b, nil); f != (valid.Fault{}) {
 			t.Fatal(b, f)
 		}

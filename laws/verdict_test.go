@@ -2,13 +2,16 @@ package laws
 
 import (
 	"math/rand"
+	"reflect"
 	"slices"
 	"testing"
 
 	"easement/amend"
 	"easement/api"
 	"easement/blame"
+	"easement/body"
 	"easement/bound"
+	"easement/check"
 	"easement/cons"
 	"easement/decl"
 	"easement/judge"
@@ -211,4 +214,68 @@ func TestAmend(t *testing.T) {
 			t.Error(trim.Bounds, naive)
 		}
 	})
+}
+
+// Promises 36.1, 36.2 and 36.4, and T1 to T5 through the layers.
+func TestCheck(t *testing.T) {
+	each(t, 14, 400, func(t *testing.T, r *rand.Rand, b api.Body) {
+		s, e := body.Put(b)
+		if e != api.OK {
+			t.Error(e)
+		}
+		got, want := check.Check(s), missing(b)
+		if got.Steps < 1 || got.Steps > check.Bound(s) {
+			t.Error("steps", got.Steps, check.Bound(s))
+		}
+		if (got.Verdict == api.Accept) != (len(want) == 0) || (got.Verdict == api.Reject) != (len(want) > 0) || !slices.Equal(got.Suggest, want) || !slices.Equal(blame.Bounds(got.Errors), want) {
+			t.Error(got, want)
+		}
+		if got.Verdict == api.Reject {
+			more := check.Check(got.Amended)
+			if more.Verdict != api.Accept {
+				t.Error("amended", more)
+			}
+		}
+		steps := got.Steps
+		got.Steps = 0
+		if of := check.Of(b, nil); !reflect.DeepEqual(of, got) {
+			t.Error(of, got)
+		}
+		if again := check.Check(s); again.Steps != steps {
+			t.Error("steps", again.Steps, steps)
+		}
+	})
+}
+
+// Promises 36.1 and 36.4, of bytes by chance: there is one verdict, which hangs on what body.Take and valid.Check tell.
+func TestAnyBytes(t *testing.T) {
+	verdicts := map[int]int{}
+	each(t, 15, 300, func(t *testing.T, r *rand.Rand, b api.Body) {
+		put, _ := body.Put(b)
+		for range 30 {
+			bytes := []byte(put)
+			for range 1 + r.Intn(2) {
+				bytes[r.Intn(len(bytes))] = byte(r.Intn(12))
+			}
+			s := string(bytes)
+			got := check.Check(s)
+			verdicts[got.Verdict]++
+			if got.Steps > check.Bound(s) {
+				t.Error("steps")
+			}
+			x, e := body.Take(s, nil)
+			f := valid.Check(x, nil)
+			if e != api.OK {
+				f = valid.Fault{}
+			}
+			if got.E != e || got.Fault != f || (got.Verdict == api.Malformed) != (e != api.OK || f.E != api.OK) || got.Verdict < api.Malformed || got.Verdict > api.Reject {
+				t.Errorf("%x: %v", s, got)
+			}
+		}
+	})
+	for verdict := api.Malformed; verdict <= api.Reject; verdict++ {
+		if verdicts[verdict] < 100 {
+			t.Error("too few", verdicts)
+		}
+	}
 }
