@@ -15,7 +15,10 @@ import (
 	"easement/cons"
 	"easement/decl"
 	"easement/judge"
+	"easement/leb"
 	"easement/path"
+	"easement/proof"
+	"easement/seed"
 	"easement/solve"
 	"easement/tick"
 	"easement/valid"
@@ -277,5 +280,67 @@ func TestAnyBytes(t *testing.T) {
 		if verdicts[verdict] < 100 {
 			t.Error("too few", verdicts)
 		}
+	}
+}
+
+// proofOf is the proof of sets.
+func proofOf(sets [][]int) string {
+	s := leb.Put(len(sets))
+	for _, set := range sets {
+		s += leb.Put(len(set))
+		next := 0
+		for _, n := range set {
+			s += leb.Put(n - next)
+			next = n + 1
+		}
+	}
+	return s
+}
+
+// Promises 37.1 to 37.3, and T6 through the layers.
+func TestProof(t *testing.T) {
+	verified := 0
+	each(t, 16, 400, func(t *testing.T, r *rand.Rand, b api.Body) {
+		want := missing(b)
+		sets := values(b, cons.Of(b, nil))
+		s, e := proof.Make(b)
+		if s != proofOf(sets) || e != api.OK {
+			t.Errorf("%x", s)
+		}
+		verdict := api.OK
+		if len(want) > 0 {
+			verdict = api.ErrWrong
+		}
+		if e := proof.Verify(b, s); e != verdict {
+			t.Error(e, want)
+		}
+		// Sets that say more, or less, and bytes by chance: what is verified is accepted.
+		for range 20 {
+			other := make([][]int, len(sets))
+			for a, set := range sets {
+				other[a] = slices.Clone(set)
+			}
+			for range 1 + r.Intn(3) {
+				a, n := r.Intn(b.Regions), r.Intn(seed.Size(b))
+				if k, has := slices.BinarySearch(other[a], n); !has {
+					other[a] = slices.Insert(other[a], k, n)
+				} else if r.Intn(3) == 0 {
+					other[a] = slices.Delete(other[a], k, k+1)
+				}
+			}
+			bytes := []byte(proofOf(other))
+			if r.Intn(3) == 0 {
+				bytes[r.Intn(len(bytes))] = byte(r.Intn(5))
+			}
+			if e := proof.Verify(b, string(bytes)); e == api.OK {
+				verified++
+				if len(want) > 0 {
+					t.Errorf("verified %x", bytes)
+				}
+			}
+		}
+	})
+	if verified < 200 {
+		t.Error("verified are", verified)
 	}
 }
