@@ -2,11 +2,15 @@ package laws
 
 import (
 	"math/rand"
+	"slices"
 	"testing"
 
 	"easement/api"
 	"easement/body"
+	"easement/edit"
+	"easement/judge"
 	"easement/text"
+	"easement/valid"
 )
 
 // Promise 38.4.
@@ -21,6 +25,43 @@ func TestText(t *testing.T) {
 			bytes[r.Intn(len(bytes))] = "0 \n-:/!9"[r.Intn(8)]
 			if x, n, e := text.Parse(string(bytes)); e != api.OK && (!body.Same(x, api.Body{}) || n == 0 && e != api.ErrMissing) {
 				t.Error(string(bytes), n, e)
+			}
+		}
+	})
+}
+
+// within is whether each bound of a list is one of another one.
+func within(l, of []api.Bound) bool {
+	return !slices.ContainsFunc(l, func(x api.Bound) bool { return !slices.Contains(of, x) })
+}
+
+// Promise 41.3.
+func TestEdits(t *testing.T) {
+	each(t, 18, 300, func(t *testing.T, r *rand.Rand, b api.Body) {
+		want := judge.Missing(b)
+		for i, x := range b.Blocks {
+			for k := range x.Stmts {
+				for _, kind := range []int{edit.Blank, edit.Drop} {
+					less, e := edit.Apply(b, edit.Edit{Kind: kind, I: i, K: k})
+					if e != api.OK || !within(judge.Missing(less), want) {
+						t.Error(kind, i, k, e)
+					}
+				}
+				swap := edit.Edit{Kind: edit.Swap, I: i, K: k}
+				if twice, out := edit.All(b, swap, swap); !body.Same(twice, b) || (out == 0) != (k+1 < len(x.Stmts)) {
+					t.Error("swap", i, k, out)
+				}
+			}
+		}
+		more, e := edit.Apply(b, edit.Edit{Kind: edit.Declare, I: r.Intn(b.Universals), K: r.Intn(b.Universals)})
+		if e != api.OK || !within(judge.Missing(more), want) {
+			t.Error("declare", e)
+		}
+		for range 20 {
+			x := edit.Edit{Kind: r.Intn(10), I: r.Intn(8) - 1, K: r.Intn(8) - 1, N: r.Intn(12) - 1}
+			got, e := edit.Apply(b, x)
+			if (e == api.OK) != valid.OK(got) || e != api.OK && !body.Same(got, api.Body{}) {
+				t.Error(x, e)
 			}
 		}
 	})
