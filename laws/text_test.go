@@ -9,6 +9,7 @@ import (
 	"easement/body"
 	"easement/edit"
 	"easement/judge"
+	"easement/script"
 	"easement/text"
 	"easement/valid"
 )
@@ -63,6 +64,40 @@ func TestEdits(t *testing.T) {
 			if (e == api.OK) != valid.OK(got) || e != api.OK && !body.Same(got, api.Body{}) {
 				t.Error(x, e)
 			}
+		}
+	})
+}
+
+// command is a command that may be, by chance.
+func command(r *rand.Rand) script.Cmd {
+	c := script.Cmd{Kind: r.Intn(10)}
+	switch c.Kind {
+	case script.Live, script.Value:
+		c.N[0] = r.Intn(20)
+	case script.Why:
+		c.N[0], c.N[1] = r.Intn(6), r.Intn(6)
+	case script.Edit:
+		c.N = [4]int{1 + r.Intn(8), r.Intn(6), r.Intn(6), r.Intn(10)}
+	}
+	return c
+}
+
+// commands is some commands.
+func commands(r *rand.Rand) []script.Cmd {
+	var l []script.Cmd
+	for range r.Intn(12) {
+		l = append(l, command(r))
+	}
+	return l
+}
+
+// Promise 42.3.
+func TestScript(t *testing.T) {
+	each(t, 19, 400, func(t *testing.T, r *rand.Rand, b api.Body) {
+		s := script.Script{Body: b, Cmds: commands(r)}
+		got, n, e := script.Parse(script.Show(s))
+		if !body.Same(got.Body, b) || !slices.Equal(got.Cmds, s.Cmds) || n != 0 || e != api.OK {
+			t.Error(got, n, e)
 		}
 	})
 }
