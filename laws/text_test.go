@@ -3,12 +3,14 @@ package laws
 import (
 	"math/rand"
 	"slices"
+	"strings"
 	"testing"
 
 	"easement/api"
 	"easement/body"
 	"easement/edit"
 	"easement/judge"
+	"easement/report"
 	"easement/script"
 	"easement/text"
 	"easement/valid"
@@ -98,6 +100,23 @@ func TestScript(t *testing.T) {
 		got, n, e := script.Parse(script.Show(s))
 		if !body.Same(got.Body, b) || !slices.Equal(got.Cmds, s.Cmds) || n != 0 || e != api.OK {
 			t.Error(got, n, e)
+		}
+	})
+}
+
+// Promise 43.3, and T8 through the layers.
+func TestReport(t *testing.T) {
+	each(t, 20, 300, func(t *testing.T, r *rand.Rand, b api.Body) {
+		s := script.Script{Body: b, Cmds: commands(r)}
+		told := strings.Join(report.Run(s), "\n")
+		if told != "" {
+			told += "\n"
+		}
+		if got := report.Text(script.Show(s)); got != told || got != report.Text(script.Show(s)) {
+			t.Error(got, told)
+		}
+		if !body.Same(b, s.Body) {
+			t.Error("changed")
 		}
 	})
 }
