@@ -74,6 +74,13 @@ func TestText(t *testing.T) {
 	if got := Places(edges(), f); !slices.Equal(got, []api.Prov{from(1), from(2)}) {
 		t.Error(got)
 	}
+	first := api.Finding{Sup: 0, Sub: 3, Path: []int{0, 3}}
+	if got := Text(edges(), first); !slices.Equal(got, []string{"0:3 is missing, by 2", "  0:1 at 0.0 flow 0", "  1:3 at 0.3 flow 0"}) {
+		t.Error(got)
+	}
+	if got := Places(edges(), first); !slices.Equal(got, []api.Prov{from(0), from(3)}) {
+		t.Error(got)
+	}
 	for _, n := range []int{-1, 5} {
 		f.Path[0] = n
 		if got := Text(edges(), f); !slices.Equal(got, []string{"0:3 is missing, by 2", "  2:3 at 0.2 flow 0"}) {

@@ -62,6 +62,10 @@ func TestOf(t *testing.T) {
 	if got := Of(b, v, decl.Of(4, nil), nil); !slices.Equal(got, []api.Bound{{Sup: 0, Sub: 4}, {Sup: 1, Sub: 4}, {Sup: 3, Sub: 1}, {Sup: 3, Sub: 4}, {Sup: 4, Sub: 1}, {Sup: 4, Sub: 4}}) {
 		t.Error(got)
 	}
+	// Of a body with fewer universal regions only the ends of these are looked at.
+	if got := Of(api.Body{Universals: 4}, v, decl.Of(5, nil), nil); !slices.Equal(got, []api.Bound{{Sup: 3, Sub: 1}}) {
+		t.Error(got)
+	}
 	if got := Of(b, nil, decl.Of(5, nil), nil); len(got) != 0 {
 		t.Error(got)
 	}

@@ -107,6 +107,24 @@ func TestCheck(t *testing.T) {
 	}
 }
 
+// Promises 19.1 and 19.3: as many as there may be.
+func TestMost(t *testing.T) {
+	sixteen := make([]int, 16)
+	a := Around{Blocks: 1, Regions: 1, Locals: []api.Type{of()}, Sigs: []api.Sig{{Params: 16, Args: make([]api.Type, 16)}}}
+	for _, x := range []api.Term{
+		{Kind: api.Switch, To: sixteen, Args: sixteen},
+		{Kind: api.Call, To: []int{0}, Params: sixteen, Args: sixteen},
+	} {
+		if e := Check(x, a); e != api.OK {
+			t.Error(x, e)
+		}
+		bytes, _ := Put(x)
+		if y, k, e := Take(bytes); !Same(x, y) || k != len(bytes) || e != api.OK {
+			t.Error(x, y, k, e)
+		}
+	}
+}
+
 // Promise 19.2.
 func TestPut(t *testing.T) {
 	for _, x := range []struct {

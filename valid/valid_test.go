@@ -62,6 +62,13 @@ func TestCheck(t *testing.T) {
 		{func(b *api.Body) { b.Bounds[0].Sub = 2 }, Fault{api.ErrRange, Bounds, 0, 0}},
 		{func(b *api.Body) { b.Bounds[1].Sup = -1 }, Fault{api.ErrRange, Bounds, 1, 0}},
 		{func(b *api.Body) { b.Universals = 1; b.Bounds = nil; b.Ret = of(0); b.Locals = nil }, Fault{api.ErrMissing, Locals, 0, 0}},
+		{func(b *api.Body) { b.Locals = append(b.Locals, make([]api.Type, api.MaxMany-4)...) }, Fault{}},
+		{func(b *api.Body) { b.Sigs = append(b.Sigs, make([]api.Sig, api.MaxMany-2)...) }, Fault{}},
+		{func(b *api.Body) {
+			b.Blocks = append(b.Blocks, slices.Repeat(b.Blocks[2:], api.MaxMany-3)...)
+			b.Blocks[0].Stmts = nil
+			b.Blocks[2].Stmts = nil
+		}, Fault{}},
 		{func(b *api.Body) { b.Locals = make([]api.Type, api.MaxMany+1) }, Fault{api.ErrMany, Locals, 0, 0}},
 		{func(b *api.Body) { b.Locals[2] = of(5); b.Ret = of(2) }, Fault{api.ErrRange, Locals, 2, 0}},
 		{func(b *api.Body) { b.Locals[1] = seventeen }, Fault{api.ErrMany, Locals, 1, 0}},
